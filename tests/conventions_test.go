@@ -1,0 +1,137 @@
+package tests
+
+import (
+	"fmt"
+	"math"
+	"reflect"
+	"strings"
+	"sync"
+	"testing"
+
+	"loop.example/g00925/impl"
+)
+
+var oddTexts = []string{
+	"", " ", "-", "--", "+", ".", ",", "-,", ",-", "0", "-0", "00", "+0", "0.", ".0", "0.000", "-0.000", "1,2", "1, 2", "1,,2", "1,2,",
+	"\x00", "\xff\xfe", "é", "1\n", "\t1", "1_0", "0x1", "1e3", "9223372036854775807", "-9223372036854775808", "9223372036854775808",
+	"-9223372036854775808.000", "--9223372036854775808.000", "12345678901234567890.123", "0.0000000000000000000",
+	strings.Repeat("9", 5000), strings.Repeat("1,", 5000), strings.Repeat(" a", 5000), strings.Repeat("-", 5000), strings.Repeat(".", 5000),
+}
+
+func oddLists() [][]int64 {
+	lists := [][]int64{nil, {}, {0}, {-90000, -90000}, {5, -300000, 300000}, zeros(64), zeros(65), zeros(100000), extremes}
+	for _, v := range extremes {
+		lists = append(lists, []int64{v}, []int64{0, v}, []int64{v, v, v})
+	}
+	return lists
+}
+
+// called calls every function of the chapters that have been built with odd arguments and returns all results.
+func called() []any {
+	var results []any
+	add := func(values ...any) { results = append(results, values) }
+	for _, s := range oddTexts {
+		number, isNumber := impl.ReadDecimal(s)
+		list, isList := impl.ReadList(s)
+		level, isLevel := impl.ReadDb(s)
+		add(s, impl.IsName(s), number, isNumber, list, isList, level, isLevel, impl.SplitWords(s))
+		for _, v := range extremes {
+			add(s, v, impl.Crc16(s, v))
+		}
+	}
+	for _, list := range oddLists() {
+		sum, sumCode := impl.SumDb(list)
+		mean, meanCode := impl.MeanDb(list)
+		add(impl.ListText(list), sum, sumCode, mean, meanCode)
+	}
+	for _, a := range extremes {
+		add(a, impl.CodeName(a), impl.Decimal(a), impl.RootOf(a), impl.ValidLevel(a), impl.LogDb(a), impl.PowDb(a), impl.DbText(a))
+		for _, b := range extremes {
+			diff, code := impl.DiffDb(a, b)
+			add(a, b, impl.DivRound(a, b), impl.RatioDb(a, b), diff, code, impl.Between(a, b, 7, 9, 3), impl.Between(-1, 9, a, b, a), impl.Between(0, 0, 1000000, a, b))
+		}
+	}
+	return results
+}
+
+func TestPromise1EveryFunctionReturnsTheSameAgain(t *testing.T) {
+	first := called()
+	if !reflect.DeepEqual(first, called()) {
+		t.Error("a second call returned other results")
+	}
+}
+
+func TestPromise1CallsAtTheSameTimeAgree(t *testing.T) {
+	all := make([][]any, 4)
+	var group sync.WaitGroup
+	for i := range all {
+		group.Go(func() { all[i] = called() })
+	}
+	group.Wait()
+	for i := range all {
+		if !reflect.DeepEqual(all[i], all[0]) {
+			t.Errorf("caller %d got other results", i)
+		}
+	}
+}
+
+func TestPromise1ArgumentsAreNotModified(t *testing.T) {
+	for _, list := range oddLists() {
+		whole := append(append(make([]int64, 0, len(list)+5), list...), 71, 72, 73, 74, 75)
+		before := append([]int64{}, whole...)
+		argument := whole[:len(list)]
+		impl.ListText(argument)
+		impl.SumDb(argument)
+		impl.MeanDb(argument)
+		if !reflect.DeepEqual(whole, before) {
+			t.Errorf("a list of %d numbers was modified", len(list))
+		}
+	}
+}
+
+func TestPromise1ResultsAreNewMemory(t *testing.T) {
+	list, _ := impl.ReadList("3,0,-1")
+	other, _ := impl.ReadList("3,0,-1")
+	list[0], list = 9, append(list[:1], 8, 8)
+	expect(t, "the other list", other, "[3 0 -1]")
+	words := impl.SplitWords("a b c")
+	otherWords := impl.SplitWords("a b c")
+	words[0], words = "x", append(words[:1], "x", "x")
+	expect(t, "the other words", otherWords, "[a b c]")
+}
+
+func TestPromise1NilIsAnEmptyList(t *testing.T) {
+	expect(t, "ListText", impl.ListText(nil), impl.ListText([]int64{}))
+	for name, add := range map[string]func([]int64) (int64, int64){"SumDb": impl.SumDb, "MeanDb": impl.MeanDb} {
+		a, codeA := add(nil)
+		b, codeB := add([]int64{})
+		expect(t, name, fmt.Sprint(a, codeA), fmt.Sprint(b, codeB))
+	}
+}
+
+func TestPromise1FailedCallsReturnZeroValues(t *testing.T) {
+	for _, s := range oddTexts {
+		if n, ok := impl.ReadDecimal(s); !ok && n != 0 {
+			t.Errorf("ReadDecimal(%.20q) = %d, false", s, n)
+		}
+		if list, ok := impl.ReadList(s); !ok && len(list) != 0 {
+			t.Errorf("ReadList(%.20q) = %d numbers, false", s, len(list))
+		}
+		if v, ok := impl.ReadDb(s); !ok && v != 0 {
+			t.Errorf("ReadDb(%.20q) = %d, false", s, v)
+		}
+	}
+	for _, list := range oddLists() {
+		if sum, code := impl.SumDb(list); code != impl.OK && sum != 0 {
+			t.Errorf("SumDb = %d with the code %d", sum, code)
+		}
+		if mean, code := impl.MeanDb(list); code != impl.OK && mean != 0 {
+			t.Errorf("MeanDb = %d with the code %d", mean, code)
+		}
+	}
+	for _, v := range extremes {
+		if diff, code := impl.DiffDb(v, math.MaxInt64); code != impl.ErrRange || diff != 0 {
+			t.Errorf("DiffDb(%d, greatest) = %d with the code %d", v, diff, code)
+		}
+	}
+}
