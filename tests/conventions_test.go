@@ -26,6 +26,45 @@ func oddLists() [][]int64 {
 	return lists
 }
 
+func oddPoints() []impl.Point {
+	list := append([]impl.Point{{X: 3000, Y: 4000}, {X: 200000}, {Y: 200000}}, badPoints...)
+	for _, v := range extremes {
+		list = append(list, impl.Point{X: v, Y: 7}, impl.Point{X: v, Y: v})
+	}
+	return list
+}
+
+// calledPlaces calls every function of chapter 3 with odd arguments and returns all results.
+func calledPlaces() []any {
+	var results []any
+	add := func(values ...any) { results = append(results, values) }
+	for _, s := range oddTexts {
+		p, ok := impl.ReadPoint(s)
+		add(s, p, ok)
+	}
+	for _, v := range extremes {
+		add(v, impl.Sine(v), impl.Cosine(v))
+		for _, w := range extremes {
+			add(v, w, impl.Turn(v, w), impl.InWedge(impl.Point{X: 9}, v, w, impl.Point{Y: 9}))
+			p, code := impl.Move(impl.Point{X: 9, Y: 9}, v, w)
+			q, codeAlong := impl.Along(impl.Point{X: 9}, impl.Point{Y: 9}, v, w)
+			add(p, code, q, codeAlong)
+		}
+	}
+	points := oddPoints()
+	for i, p := range points {
+		nearest, code := impl.NearestOf(points[:3], p)
+		never, codeNever := impl.NearestOf(points[:i], p)
+		add(p, impl.ValidPoint(p), impl.PointText(p), nearest, code, never, codeNever)
+		for _, q := range points {
+			moved, codeMove := impl.Move(p, q.X, q.Y)
+			along, codeAlong := impl.Along(p, q, 1, 3)
+			add(p, q, impl.Distance(p, q), impl.Bearing(p, q), impl.InWedge(p, q.X, 90, q), moved, codeMove, along, codeAlong)
+		}
+	}
+	return results
+}
+
 // called calls every function of the chapters that have been built with odd arguments and returns all results.
 func called() []any {
 	var results []any
@@ -51,7 +90,7 @@ func called() []any {
 			add(a, b, impl.DivRound(a, b), impl.RatioDb(a, b), diff, code, impl.Between(a, b, 7, 9, 3), impl.Between(-1, 9, a, b, a), impl.Between(0, 0, 1000000, a, b))
 		}
 	}
-	return results
+	return append(results, calledPlaces()...)
 }
 
 func TestPromise1EveryFunctionReturnsTheSameAgain(t *testing.T) {
@@ -89,6 +128,17 @@ func TestPromise1ArgumentsAreNotModified(t *testing.T) {
 	}
 }
 
+func TestPromise1PointsAreNotModified(t *testing.T) {
+	whole := append(append([]impl.Point{}, places(20)...), badPoints...)
+	before := append([]impl.Point{}, whole...)
+	for i := range whole {
+		impl.NearestOf(whole[:i], whole[i])
+	}
+	if !reflect.DeepEqual(whole, before) {
+		t.Error("a list of points was modified")
+	}
+}
+
 func TestPromise1ResultsAreNewMemory(t *testing.T) {
 	list, _ := impl.ReadList("3,0,-1")
 	other, _ := impl.ReadList("3,0,-1")
@@ -107,6 +157,9 @@ func TestPromise1NilIsAnEmptyList(t *testing.T) {
 		b, codeB := add([]int64{})
 		expect(t, name, fmt.Sprint(a, codeA), fmt.Sprint(b, codeB))
 	}
+	a, codeA := impl.NearestOf(nil, impl.Point{})
+	b, codeB := impl.NearestOf([]impl.Point{}, impl.Point{})
+	expect(t, "NearestOf", fmt.Sprint(a, codeA), fmt.Sprint(b, codeB))
 }
 
 func TestPromise1FailedCallsReturnZeroValues(t *testing.T) {
@@ -132,6 +185,28 @@ func TestPromise1FailedCallsReturnZeroValues(t *testing.T) {
 	for _, v := range extremes {
 		if diff, code := impl.DiffDb(v, math.MaxInt64); code != impl.ErrRange || diff != 0 {
 			t.Errorf("DiffDb(%d, greatest) = %d with the code %d", v, diff, code)
+		}
+	}
+}
+
+func TestPromise1FailedCallsWithPointsReturnZeroValues(t *testing.T) {
+	for _, s := range append(oddTexts, "200001,3", "3,-1", "3,4,5", "3,x") {
+		if p, ok := impl.ReadPoint(s); !ok && p != (impl.Point{}) {
+			t.Errorf("ReadPoint(%.20q) = %v, false", s, p)
+		}
+	}
+	points := oddPoints()
+	for i, p := range points {
+		if index, code := impl.NearestOf(points[:i], p); code != impl.OK && index != 0 {
+			t.Errorf("NearestOf = %d with the code %d", index, code)
+		}
+		for _, q := range points {
+			if moved, code := impl.Move(p, q.X, q.Y); code != impl.OK && moved != (impl.Point{}) {
+				t.Errorf("Move = %v with the code %d", moved, code)
+			}
+			if along, code := impl.Along(p, q, q.X, q.Y); code != impl.OK && along != (impl.Point{}) {
+				t.Errorf("Along = %v with the code %d", along, code)
+			}
 		}
 	}
 }
