@@ -4,6 +4,7 @@ import (
 	"fmt"
 	"math"
 	"reflect"
+	"slices"
 	"strings"
 	"sync"
 	"testing"
@@ -65,6 +66,66 @@ func calledPlaces() []any {
 	return results
 }
 
+// oddNumbers are fewer than extremes, for calls with several numbers and with long lists.
+var oddNumbers = []int64{math.MinInt64, -1, 0, 1, 2, 3, 65, 66, 10000, 90001, math.MaxInt64}
+
+// calledTerrains calls every function of chapter 4 with odd arguments and returns all results.
+func calledTerrains() []any {
+	var results []any
+	add := func(values ...any) { results = append(results, values) }
+	for _, s := range append(otherTerrainTexts(), oddTexts...) {
+		read, ok := impl.ReadTerrain(s)
+		add(s, read, ok)
+	}
+	for _, g := range append(terrains(), badTerrains()...) {
+		top, h, code := impl.HighestPoint(g)
+		add(impl.ValidTerrain(g), impl.SameTerrain(g, four()), impl.TerrainText(g), top, h, code)
+		for _, v := range oddNumbers {
+			flat, flatCode := impl.FlatTerrain(g.Step, v, g.Height, v)
+			set, setCode := impl.SetGround(g, v, 1, v, v)
+			crop, cropCode := impl.CropTerrain(g, v, v, 2, v)
+			part, partCode := impl.CropTerrain(g, 1, 0, v, v)
+			add(v, flat, flatCode, set, setCode, crop, cropCode, part, partCode)
+			p := point(v, 3)
+			h, code := impl.HeightAt(g, p)
+			class, classCode := impl.ClutterAt(g, p)
+			add(impl.InTerrain(g, p), h, code, class, classCode)
+			for _, n := range oddNumbers {
+				places, placesCode := impl.ProfilePlaces(p, point(3, v), n)
+				heights, heightsCode := impl.ProfileOf(g, p, point(3, v), n)
+				classes, classesCode := impl.ProfileClutter(g, point(0, v), p, n)
+				add(n, places, placesCode, heights, heightsCode, classes, classesCode)
+			}
+		}
+	}
+	return results
+}
+
+// calledProfiles calls every function of chapter 5 with odd arguments and returns all results.
+func calledProfiles() []any {
+	var results []any
+	add := func(values ...any) { results = append(results, values) }
+	for _, p := range append(profiles(), badProfiles()...) {
+		turned, code := impl.TurnProfile(p)
+		add(impl.ValidProfile(p), impl.SameProfile(p, hill()), turned, code)
+		for _, v := range append(oddNumbers, 900000) {
+			offset, offsetCode := impl.OffsetAt(p, v)
+			line, lineCode := impl.LineAt(p, v)
+			clearance, clearanceCode := impl.ClearanceAt(p, v)
+			worst, share, worstCode := impl.WorstOf(p, v)
+			raised, raisedCode := impl.RaiseEnds(p, v)
+			add(v, offset, offsetCode, line, lineCode, clearance, clearanceCode, worst, share, worstCode, impl.IsClear(p, v, v), raised, raisedCode)
+		}
+	}
+	for _, a := range extremes {
+		add(a, impl.HorizonOf(a))
+		for _, b := range extremes {
+			add(a, b, impl.BulgeAt(a, b), impl.FresnelRadius(a, b, 5000), impl.FresnelRadius(900000, a, b), impl.FresnelRadius(a, a, b))
+		}
+	}
+	return results
+}
+
 // called calls every function of the chapters that have been built with odd arguments and returns all results.
 func called() []any {
 	var results []any
@@ -90,7 +151,9 @@ func called() []any {
 			add(a, b, impl.DivRound(a, b), impl.RatioDb(a, b), diff, code, impl.Between(a, b, 7, 9, 3), impl.Between(-1, 9, a, b, a), impl.Between(0, 0, 1000000, a, b))
 		}
 	}
-	return append(results, calledPlaces()...)
+	results = append(results, calledPlaces()...)
+	results = append(results, calledTerrains()...)
+	return append(results, calledProfiles()...)
 }
 
 func TestPromise1EveryFunctionReturnsTheSameAgain(t *testing.T) {
@@ -148,6 +211,109 @@ func TestPromise1ResultsAreNewMemory(t *testing.T) {
 	otherWords := impl.SplitWords("a b c")
 	words[0], words = "x", append(words[:1], "x", "x")
 	expect(t, "the other words", otherWords, "[a b c]")
+}
+
+// roomy returns a copy of a list whose unused capacity is filled, and its whole memory.
+func roomy(list []int64) ([]int64, []int64) {
+	whole := append(append(make([]int64, 0, len(list)+5), list...), 71, 72, 73, 74, 75)
+	return whole[:len(list)], whole
+}
+
+func TestPromise1TerrainsAreNotModified(t *testing.T) {
+	for i, g := range append(terrains(), badTerrains()...) {
+		var heights, classes []int64
+		g.Heights, heights = roomy(g.Heights)
+		g.Clutter, classes = roomy(g.Clutter)
+		before, beforeClasses := slices.Clone(heights), slices.Clone(classes)
+		impl.ValidTerrain(g)
+		impl.SameTerrain(g, g)
+		impl.InTerrain(g, point(3, 0))
+		impl.HeightAt(g, point(3, 0))
+		impl.ClutterAt(g, point(3, 0))
+		impl.SetGround(g, 1, 1, 90000, 7)
+		impl.HighestPoint(g)
+		impl.CropTerrain(g, 0, 0, 2, 2)
+		impl.ProfileOf(g, point(1, 0), point(0, 1), 3)
+		impl.ProfileClutter(g, point(1, 0), point(0, 1), 3)
+		impl.TerrainText(g)
+		if !slices.Equal(heights, before) || !slices.Equal(classes, beforeClasses) {
+			t.Errorf("the terrain %d was modified", i)
+		}
+	}
+}
+
+func TestPromise1ProfilesAreNotModified(t *testing.T) {
+	for i, p := range append(profiles(), badProfiles()...) {
+		var heights []int64
+		p.Heights, heights = roomy(p.Heights)
+		before := slices.Clone(heights)
+		impl.ValidProfile(p)
+		impl.SameProfile(p, p)
+		impl.TurnProfile(p)
+		impl.OffsetAt(p, 1)
+		impl.LineAt(p, 1)
+		impl.ClearanceAt(p, 1)
+		impl.WorstOf(p, 900000)
+		impl.IsClear(p, 900000, 600)
+		impl.RaiseEnds(p, 1)
+		if !slices.Equal(heights, before) {
+			t.Errorf("the profile %d was modified", i)
+		}
+	}
+}
+
+// spoilTerrain overwrites a terrain and the memory behind its lists.
+func spoilTerrain(g impl.Terrain) {
+	for _, list := range [][]int64{g.Heights, g.Clutter} {
+		list = list[:cap(list)]
+		for i := range list {
+			list[i] = -7
+		}
+	}
+}
+
+func TestPromise1TerrainsAreNewMemory(t *testing.T) {
+	flat := func(impl.Terrain) (impl.Terrain, int64) { return impl.FlatTerrain(10, 3, 3, 7) }
+	set := func(g impl.Terrain) (impl.Terrain, int64) { return impl.SetGround(g, 1, 1, 5, 5) }
+	crop := func(g impl.Terrain) (impl.Terrain, int64) { return impl.CropTerrain(g, 0, 0, g.Width, g.Height) }
+	read := func(g impl.Terrain) (impl.Terrain, int64) {
+		back, _ := impl.ReadTerrain(impl.TerrainText(g))
+		return back, impl.OK
+	}
+	for i, build := range []func(impl.Terrain) (impl.Terrain, int64){flat, set, crop, read} {
+		g := rough(10, 5, 5, 50)
+		first, _ := build(g)
+		second, _ := build(g)
+		if !impl.SameTerrain(first, second) || !impl.ValidTerrain(first) {
+			t.Errorf("the terrains of the function %d are not the same", i)
+		}
+		for k := range second.Heights {
+			second.Heights[k] = -7
+		}
+		expect(t, "the classes of a terrain whose heights were changed", second.Clutter, first.Clutter)
+		spoilTerrain(second)
+		if !impl.ValidTerrain(first) || !impl.SameTerrain(g, rough(10, 5, 5, 50)) {
+			t.Errorf("the terrain of the function %d shares memory", i)
+		}
+	}
+}
+
+func TestPromise1ProfilesAreNewMemory(t *testing.T) {
+	p := hill()
+	turned, _ := impl.TurnProfile(p)
+	again, _ := impl.TurnProfile(p)
+	raised, _ := impl.RaiseEnds(p, 0)
+	for _, list := range [][]int64{turned.Heights, raised.Heights} {
+		list = list[:cap(list)]
+		for i := range list {
+			list[i] = -7
+		}
+	}
+	expect(t, "the profile and another one", []any{impl.SameProfile(p, hill()), again.Heights}, "[true [120 200 600 150 100]]")
+	places, _ := impl.ProfilePlaces(point(3, 0), point(0, 0), 3)
+	otherPlaces, _ := impl.ProfilePlaces(point(3, 0), point(0, 0), 3)
+	places[0] = point(9, 9)
+	expect(t, "the other places", otherPlaces, "[{3 0} {2 0} {0 0}]")
 }
 
 func TestPromise1NilIsAnEmptyList(t *testing.T) {
