@@ -1,6 +1,9 @@
 package tests
 
 import (
+	"go/ast"
+	"go/parser"
+	"go/token"
 	"math"
 	"math/big"
 	"math/rand"
@@ -267,6 +270,60 @@ func TestPromise3OtherLevelTextsAreNotRead(t *testing.T) {
 		"1,000", "1.0.0", "1.00a", "a.000", "0x1.000", "1_0.000", "300.001", "-300.001", "1000.000", "9223372036854775.808", "18446744073709551.617", "٠.٠٠٠"} {
 		if v, ok := impl.ReadDb(s); ok || v != 0 {
 			t.Errorf("ReadDb(%q) = %d, %v", s, v, ok)
+		}
+	}
+}
+
+// namesUsed returns, for each function of chapters 1 and 2, the names in its declaration.
+func namesUsed(t *testing.T) map[string][]string {
+	used := map[string][]string{}
+	for _, file := range []string{"../impl/l01_basics.go", "../impl/l02_decibels.go"} {
+		parsed, err := parser.ParseFile(token.NewFileSet(), file, nil, parser.SkipObjectResolution)
+		if err != nil {
+			t.Fatal(err)
+		}
+		for _, d := range parsed.Decls {
+			function, ok := d.(*ast.FuncDecl)
+			if !ok {
+				continue
+			}
+			name := function.Name.Name
+			ast.Inspect(function, func(n ast.Node) bool {
+				if id, ok := n.(*ast.Ident); ok && id.Name != name {
+					used[name] = append(used[name], id.Name)
+				}
+				return true
+			})
+		}
+	}
+	return used
+}
+
+// reaches reports whether a function comes to a name, itself or through the functions that it uses.
+func reaches(used map[string][]string, from, name string, seen map[string]bool) bool {
+	if from == name {
+		return true
+	}
+	seen[from] = true
+	for _, next := range used[from] {
+		if !seen[next] && reaches(used, next, name, seen) {
+			return true
+		}
+	}
+	return false
+}
+
+// LANGUAGE.md, rule 3b: powers and sums are computed by a function, and the table built once stays beside it.
+func TestPromise3PowersAndSumsNeedNoStoredTable(t *testing.T) {
+	used := namesUsed(t)
+	for _, name := range []string{"tens", "tensOnce"} {
+		for _, from := range []string{"LogDb", "PowDb", "RatioDb", "SumDb", "MeanDb", "DiffDb"} {
+			if len(used[from]) == 0 || reaches(used, from, name, map[string]bool{}) {
+				t.Errorf("%s is computed through %s", from, name)
+			}
+		}
+		if !reaches(used, "ReadDb", name, map[string]bool{}) {
+			t.Errorf("ReadDb does not read %s", name)
 		}
 	}
 }
