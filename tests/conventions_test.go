@@ -126,6 +126,72 @@ func calledProfiles() []any {
 	return results
 }
 
+// calledAntennas calls every function of chapter 6 with odd arguments and returns all results.
+func calledAntennas() []any {
+	var results []any
+	add := func(values ...any) { results = append(results, values) }
+	for _, s := range append(otherAntennaTexts(), oddTexts...) {
+		read, ok := impl.ReadAntenna(s)
+		add(s, read, ok)
+		for _, v := range append(oddNumbers, 60000) {
+			around, aroundCode := impl.OmniAntenna(s, v)
+			narrow, narrowCode := impl.BeamAntenna("b"+s, 0, v, v)
+			wide, wideCode := impl.BeamAntenna("a", v, 60, v)
+			add(v, around, aroundCode, narrow, narrowCode, wide, wideCode)
+		}
+	}
+	for _, a := range append(antennas(), badAntennas()...) {
+		mirrored, mirroredCode := impl.MirrorAntenna(a)
+		envelope, envelopeCode := impl.EnvelopeOf(a, jagged(0, 9), "e")
+		other, otherCode := impl.EnvelopeOf(omni(500), a, a.Name)
+		width, widthCode := impl.BeamWidth(a)
+		back, backCode := impl.FrontToBack(a)
+		add(impl.ValidAntenna(a), impl.SameAntenna(a, omni(0)), impl.AntennaText(a), mirrored, mirroredCode, envelope, envelopeCode, other, otherCode, width, widthCode, back, backCode)
+		for _, v := range append(oddNumbers, -90, 90, 359) {
+			loss, code := impl.HorizontalLoss(a, v)
+			upward, upwardCode := impl.VerticalLoss(a, v)
+			add(v, loss, code, upward, upwardCode)
+			for _, w := range oddNumbers {
+				gain, gainCode := impl.GainToward(a, v, w, w, v)
+				turned, turnedCode := impl.GainToward(a, 90, w, 90, v)
+				add(w, gain, gainCode, turned, turnedCode)
+			}
+		}
+	}
+	return results
+}
+
+// calledRadios calls every function of chapter 7 with odd arguments and returns all results.
+func calledRadios() []any {
+	var results []any
+	add := func(values ...any) { results = append(results, values) }
+	for _, s := range append(otherRadioTexts(), oddTexts...) {
+		read, ok := impl.ReadRadio(s)
+		add(s, read, ok)
+	}
+	for _, r := range append(radios(), badRadios()...) {
+		floor, code := impl.NoiseFloor(r)
+		add(impl.ValidRadio(r), impl.SameRadio(r, twoModes()), impl.RadioText(r), floor, code)
+		for _, v := range append(oddNumbers, -60000, 60000, 300000) {
+			eirp, eirpCode := impl.EirpOf(r, v)
+			snr, snrCode := impl.SnrOf(r, v)
+			sinr, sinrCode := impl.SinrOf(r, v, oddNumbers)
+			fewer, fewerCode := impl.SinrOf(r, -90000, []int64{v, v, 3})
+			best, bestCode := impl.BestMode(r, v)
+			least, leastCode := impl.LeastLevel(r, v)
+			add(v, eirp, eirpCode, snr, snrCode, sinr, sinrCode, fewer, fewerCode, best, bestCode, impl.RateAt(r, v), least, leastCode)
+			for _, w := range oddNumbers {
+				level, levelCode := impl.ArrivingLevel(r, v, w, v)
+				other, otherCode := impl.ArrivingLevel(r, w, v, 3)
+				loss, lossCode := impl.GreatestLoss(r, v, twoModes(), w, 1)
+				back, backCode := impl.GreatestLoss(twoModes(), w, r, w, v)
+				add(w, level, levelCode, other, otherCode, loss, lossCode, back, backCode)
+			}
+		}
+	}
+	return results
+}
+
 // called calls every function of the chapters that have been built with odd arguments and returns all results.
 func called() []any {
 	var results []any
@@ -153,7 +219,9 @@ func called() []any {
 	}
 	results = append(results, calledPlaces()...)
 	results = append(results, calledTerrains()...)
-	return append(results, calledProfiles()...)
+	results = append(results, calledProfiles()...)
+	results = append(results, calledAntennas()...)
+	return append(results, calledRadios()...)
 }
 
 func TestPromise1EveryFunctionReturnsTheSameAgain(t *testing.T) {
@@ -262,14 +330,58 @@ func TestPromise1ProfilesAreNotModified(t *testing.T) {
 	}
 }
 
-// spoilTerrain overwrites a terrain and the memory behind its lists.
-func spoilTerrain(g impl.Terrain) {
-	for _, list := range [][]int64{g.Heights, g.Clutter} {
-		list = list[:cap(list)]
-		for i := range list {
-			list[i] = -7
+func TestPromise1AntennasAreNotModified(t *testing.T) {
+	for i, a := range append(antennas(), badAntennas()...) {
+		var around, upward []int64
+		a.Horizontal, around = roomy(a.Horizontal)
+		a.Vertical, upward = roomy(a.Vertical)
+		before, beforeUpward := slices.Clone(around), slices.Clone(upward)
+		impl.ValidAntenna(a)
+		impl.SameAntenna(a, a)
+		impl.HorizontalLoss(a, 355)
+		impl.VerticalLoss(a, 90)
+		impl.GainToward(a, 90, 5, 91, -3)
+		impl.MirrorAntenna(a)
+		impl.EnvelopeOf(a, omni(0), "e")
+		impl.EnvelopeOf(omni(60000), a, "e")
+		impl.BeamWidth(a)
+		impl.FrontToBack(a)
+		impl.AntennaText(a)
+		if !slices.Equal(around, before) || !slices.Equal(upward, beforeUpward) {
+			t.Errorf("the antenna %d was modified", i)
 		}
 	}
+}
+
+func TestPromise1RadiosAreNotModified(t *testing.T) {
+	for i, r := range append(radios(), badRadios()...) {
+		whole := append(slices.Clone(r.Modes), impl.Mode{Need: 71, Rate: 72}, impl.Mode{Need: 73, Rate: 74})
+		r.Modes = whole[:len(r.Modes)]
+		before := slices.Clone(whole)
+		others, levels := roomy([]int64{-90000, -80000, -108000})
+		levelsBefore := slices.Clone(levels)
+		impl.ValidRadio(r)
+		impl.SameRadio(r, r)
+		impl.NoiseFloor(r)
+		impl.EirpOf(r, 3)
+		impl.SnrOf(r, -90000)
+		impl.SinrOf(r, -90000, others)
+		impl.BestMode(r, 10000)
+		impl.RateAt(r, -90000)
+		impl.LeastLevel(r, 0)
+		impl.ArrivingLevel(r, 3, 4, 5)
+		impl.GreatestLoss(r, 3, r, 4, 0)
+		impl.RadioText(r)
+		if !slices.Equal(whole, before) || !slices.Equal(levels, levelsBefore) {
+			t.Errorf("the radio %d or a list of levels was modified", i)
+		}
+	}
+}
+
+// spoilTerrain overwrites a terrain and the memory behind its lists.
+func spoilTerrain(g impl.Terrain) {
+	spoil(g.Heights)
+	spoil(g.Clutter)
 }
 
 func TestPromise1TerrainsAreNewMemory(t *testing.T) {
@@ -303,17 +415,53 @@ func TestPromise1ProfilesAreNewMemory(t *testing.T) {
 	turned, _ := impl.TurnProfile(p)
 	again, _ := impl.TurnProfile(p)
 	raised, _ := impl.RaiseEnds(p, 0)
-	for _, list := range [][]int64{turned.Heights, raised.Heights} {
-		list = list[:cap(list)]
-		for i := range list {
-			list[i] = -7
-		}
-	}
+	spoil(turned.Heights)
+	spoil(raised.Heights)
 	expect(t, "the profile and another one", []any{impl.SameProfile(p, hill()), again.Heights}, "[true [120 200 600 150 100]]")
 	places, _ := impl.ProfilePlaces(point(3, 0), point(0, 0), 3)
 	otherPlaces, _ := impl.ProfilePlaces(point(3, 0), point(0, 0), 3)
 	places[0] = point(9, 9)
 	expect(t, "the other places", otherPlaces, "[{3 0} {2 0} {0 0}]")
+}
+
+// spoil overwrites a list and the memory behind it.
+func spoil(list []int64) {
+	list = list[:cap(list)]
+	for i := range list {
+		list[i] = -7
+	}
+}
+
+func TestPromise1AntennasAreNewMemory(t *testing.T) {
+	around := func(impl.Antenna) (impl.Antenna, int64) { return impl.OmniAntenna("o", 5) }
+	narrow := func(impl.Antenna) (impl.Antenna, int64) { return impl.BeamAntenna("b", 5, 60, 60) }
+	envelope := func(a impl.Antenna) (impl.Antenna, int64) { return impl.EnvelopeOf(a, a, "e") }
+	read := func(a impl.Antenna) (impl.Antenna, int64) {
+		back, _ := impl.ReadAntenna(impl.AntennaText(a))
+		return back, impl.OK
+	}
+	for i, build := range []func(impl.Antenna) (impl.Antenna, int64){around, narrow, envelope, read, impl.MirrorAntenna} {
+		a := jagged(3000, 500)
+		first, _ := build(a)
+		second, _ := build(a)
+		if !impl.SameAntenna(first, second) || !impl.ValidAntenna(first) {
+			t.Errorf("the antennas of the function %d are not the same", i)
+		}
+		spoil(second.Horizontal)
+		expect(t, "the vertical losses of an antenna whose horizontal ones were changed", second.Vertical, first.Vertical)
+		spoil(second.Vertical)
+		if !impl.ValidAntenna(first) || !impl.SameAntenna(a, jagged(3000, 500)) {
+			t.Errorf("the antenna of the function %d shares memory", i)
+		}
+	}
+}
+
+func TestPromise1RadiosAreNewMemory(t *testing.T) {
+	text := impl.RadioText(twoModes())
+	first, _ := impl.ReadRadio(text)
+	second, _ := impl.ReadRadio(text)
+	second.Modes[0], second.Modes = impl.Mode{}, append(second.Modes[:1], impl.Mode{})
+	expect(t, "the other radio", impl.SameRadio(first, twoModes()), true)
 }
 
 func TestPromise1NilIsAnEmptyList(t *testing.T) {
@@ -326,6 +474,9 @@ func TestPromise1NilIsAnEmptyList(t *testing.T) {
 	a, codeA := impl.NearestOf(nil, impl.Point{})
 	b, codeB := impl.NearestOf([]impl.Point{}, impl.Point{})
 	expect(t, "NearestOf", fmt.Sprint(a, codeA), fmt.Sprint(b, codeB))
+	a, codeA = impl.SinrOf(twoModes(), -90000, nil)
+	b, codeB = impl.SinrOf(twoModes(), -90000, []int64{})
+	expect(t, "SinrOf", fmt.Sprint(a, codeA), fmt.Sprint(b, codeB))
 }
 
 func TestPromise1FailedCallsReturnZeroValues(t *testing.T) {
