@@ -192,6 +192,38 @@ func calledRadios() []any {
 	return results
 }
 
+// calledMasks calls every function of chapter 8 with odd arguments and returns all results.
+func calledMasks() []any {
+	var results []any
+	add := func(values ...any) { results = append(results, values) }
+	for _, s := range append(otherMaskTexts(), oddTexts...) {
+		read, ok := impl.ReadMask(s)
+		add(s, read, ok)
+	}
+	for _, table := range oddLists() {
+		for _, need := range oddNumbers {
+			steps, code := impl.StepsFor(table, need)
+			add(steps, code)
+		}
+	}
+	for i, m := range append(masks(), badMasks()...) {
+		met, code := impl.MeetMasks(m, channel(200, 60000))
+		add(impl.ValidMask(m), impl.SameMask(m, channel(200, 60000)), impl.MaskText(m), met, code)
+		for _, v := range append(oddNumbers, -1000000, 1000000) {
+			made, madeCode := impl.ChannelMask(v, int64(i))
+			other, otherCode := impl.ChannelMask(200, v)
+			loss, lossCode := impl.LossAtOffset(m, v)
+			width, widthCode := impl.WidthAt(m, v)
+			weaker, weakerCode := impl.Discrimination(m, channel(200, 60000), v)
+			back, backCode := impl.Discrimination(channel(200, 60000), m, v)
+			table, tableCode := impl.DiscriminationTable(m, m, v, 2)
+			longer, longerCode := impl.DiscriminationTable(m, m, 1, v)
+			add(v, made, madeCode, other, otherCode, loss, lossCode, width, widthCode, weaker, weakerCode, back, backCode, table, tableCode, longer, longerCode)
+		}
+	}
+	return results
+}
+
 // called calls every function of the chapters that have been built with odd arguments and returns all results.
 func called() []any {
 	var results []any
@@ -221,7 +253,8 @@ func called() []any {
 	results = append(results, calledTerrains()...)
 	results = append(results, calledProfiles()...)
 	results = append(results, calledAntennas()...)
-	return append(results, calledRadios()...)
+	results = append(results, calledRadios()...)
+	return append(results, calledMasks()...)
 }
 
 func TestPromise1EveryFunctionReturnsTheSameAgain(t *testing.T) {
@@ -378,6 +411,29 @@ func TestPromise1RadiosAreNotModified(t *testing.T) {
 	}
 }
 
+func TestPromise1MasksAreNotModified(t *testing.T) {
+	for i, m := range append(masks(), badMasks()...) {
+		var offsets, losses []int64
+		m.Offsets, offsets = roomy(m.Offsets)
+		m.Losses, losses = roomy(m.Losses)
+		before, lossesBefore := slices.Clone(offsets), slices.Clone(losses)
+		impl.ValidMask(m)
+		impl.SameMask(m, m)
+		impl.LossAtOffset(m, 3)
+		impl.WidthAt(m, 3)
+		impl.MeetMasks(m, m)
+		impl.MeetMasks(m, mask([]int64{0, 7}, []int64{0, 9}))
+		impl.MeetMasks(mask([]int64{0, 7}, []int64{0, 9}), m)
+		impl.Discrimination(m, m, 3)
+		impl.DiscriminationTable(m, m, 3, 2)
+		impl.StepsFor(m.Losses, 3)
+		impl.MaskText(m)
+		if !slices.Equal(offsets, before) || !slices.Equal(losses, lossesBefore) {
+			t.Errorf("the mask %d was modified", i)
+		}
+	}
+}
+
 // spoilTerrain overwrites a terrain and the memory behind its lists.
 func spoilTerrain(g impl.Terrain) {
 	spoil(g.Heights)
@@ -464,6 +520,34 @@ func TestPromise1RadiosAreNewMemory(t *testing.T) {
 	expect(t, "the other radio", impl.SameRadio(first, twoModes()), true)
 }
 
+func TestPromise1MasksAreNewMemory(t *testing.T) {
+	made := func(impl.Mask) (impl.Mask, int64) { return impl.ChannelMask(200, 60000) }
+	met := func(m impl.Mask) (impl.Mask, int64) { return impl.MeetMasks(m, m) }
+	same := func(m impl.Mask) (impl.Mask, int64) { return impl.MeetMasks(mask([]int64{0, 7}, zeros(2)), m) }
+	read := func(m impl.Mask) (impl.Mask, int64) {
+		back, _ := impl.ReadMask(impl.MaskText(m))
+		return back, impl.OK
+	}
+	for i, build := range []func(impl.Mask) (impl.Mask, int64){made, met, same, read} {
+		m := bent(5, 1000, 40000, 5)
+		first, _ := build(m)
+		second, _ := build(m)
+		if !impl.SameMask(first, second) || !impl.ValidMask(first) {
+			t.Errorf("the masks of the function %d are not the same", i)
+		}
+		spoil(second.Offsets)
+		expect(t, "the losses of a mask whose offsets were changed", second.Losses, first.Losses)
+		spoil(second.Losses)
+		if !impl.ValidMask(first) || !impl.SameMask(m, bent(5, 1000, 40000, 5)) {
+			t.Errorf("the mask of the function %d shares memory", i)
+		}
+	}
+	table, _ := impl.DiscriminationTable(channel(200, 60000), channel(200, 60000), 100, 4)
+	other, _ := impl.DiscriminationTable(channel(200, 60000), channel(200, 60000), 100, 4)
+	spoil(table)
+	expect(t, "the other table", other, "[0 2576 11292 58276]")
+}
+
 func TestPromise1NilIsAnEmptyList(t *testing.T) {
 	expect(t, "ListText", impl.ListText(nil), impl.ListText([]int64{}))
 	for name, add := range map[string]func([]int64) (int64, int64){"SumDb": impl.SumDb, "MeanDb": impl.MeanDb} {
@@ -474,6 +558,9 @@ func TestPromise1NilIsAnEmptyList(t *testing.T) {
 	a, codeA := impl.NearestOf(nil, impl.Point{})
 	b, codeB := impl.NearestOf([]impl.Point{}, impl.Point{})
 	expect(t, "NearestOf", fmt.Sprint(a, codeA), fmt.Sprint(b, codeB))
+	a, codeA = impl.StepsFor(nil, 0)
+	b, codeB = impl.StepsFor([]int64{}, 0)
+	expect(t, "StepsFor", fmt.Sprint(a, codeA), fmt.Sprint(b, codeB))
 	a, codeA = impl.SinrOf(twoModes(), -90000, nil)
 	b, codeB = impl.SinrOf(twoModes(), -90000, []int64{})
 	expect(t, "SinrOf", fmt.Sprint(a, codeA), fmt.Sprint(b, codeB))
