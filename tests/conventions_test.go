@@ -224,6 +224,56 @@ func calledMasks() []any {
 	return results
 }
 
+// calledFreeSpace calls every function of chapter 9 with odd arguments and returns all results.
+func calledFreeSpace() []any {
+	var results []any
+	add := func(values ...any) { results = append(results, values) }
+	for _, list := range oddLists() {
+		for _, f := range oddNumbers {
+			table, code := impl.FreeTable(f, list)
+			add(table, code)
+		}
+	}
+	for _, a := range extremes {
+		length, lengthCode := impl.WavelengthOf(a)
+		add(length, lengthCode)
+		for _, b := range extremes {
+			loss, lossCode := impl.FreeLoss(a, b)
+			field, fieldCode := impl.FieldStrength(a, b)
+			level, levelCode := impl.LevelOfField(a, b)
+			back, backCode := impl.FieldOfLevel(a, b)
+			reach, reachCode := impl.RangeOfLoss(a, b)
+			other, otherCode := impl.RangeOfField(a, b)
+			far, farCode := impl.FarDistance(a, b)
+			add(a, b, loss, lossCode, field, fieldCode, level, levelCode, back, backCode, reach, reachCode, other, otherCode, far, farCode)
+		}
+	}
+	return results
+}
+
+// calledDiffraction calls every function of chapter 10 with odd arguments and returns all results.
+func calledDiffraction() []any {
+	var results []any
+	add := func(values ...any) { results = append(results, values) }
+	for _, v := range extremes {
+		add(v, impl.EdgeLoss(v))
+	}
+	for _, p := range append(edged(), badProfiles()...) {
+		for _, v := range append(oddNumbers, 900000) {
+			edges, edgesCode := impl.EdgesOf(p, v)
+			worst, loss, worstCode := impl.SingleEdge(p, v)
+			deygout, deygoutCode := impl.DeygoutLoss(p, v)
+			bullington, bullingtonCode := impl.BullingtonLoss(p, v)
+			nu, nuCode := impl.NuAt(p, v, 1)
+			other, otherCode := impl.NuAt(p, 900000, v)
+			first, firstCode := impl.PartProfile(p, 0, v)
+			last, lastCode := impl.PartProfile(p, v, v+1)
+			add(v, edges, edgesCode, worst, loss, worstCode, deygout, deygoutCode, bullington, bullingtonCode, nu, nuCode, other, otherCode, first, firstCode, last, lastCode)
+		}
+	}
+	return results
+}
+
 // called calls every function of the chapters that have been built with odd arguments and returns all results.
 func called() []any {
 	var results []any
@@ -254,7 +304,9 @@ func called() []any {
 	results = append(results, calledProfiles()...)
 	results = append(results, calledAntennas()...)
 	results = append(results, calledRadios()...)
-	return append(results, calledMasks()...)
+	results = append(results, calledMasks()...)
+	results = append(results, calledFreeSpace()...)
+	return append(results, calledDiffraction()...)
 }
 
 func TestPromise1EveryFunctionReturnsTheSameAgain(t *testing.T) {
@@ -286,6 +338,7 @@ func TestPromise1ArgumentsAreNotModified(t *testing.T) {
 		impl.ListText(argument)
 		impl.SumDb(argument)
 		impl.MeanDb(argument)
+		impl.FreeTable(900000, argument)
 		if !reflect.DeepEqual(whole, before) {
 			t.Errorf("a list of %d numbers was modified", len(list))
 		}
@@ -344,7 +397,7 @@ func TestPromise1TerrainsAreNotModified(t *testing.T) {
 }
 
 func TestPromise1ProfilesAreNotModified(t *testing.T) {
-	for i, p := range append(profiles(), badProfiles()...) {
+	for i, p := range append(edged(), badProfiles()...) {
 		var heights []int64
 		p.Heights, heights = roomy(p.Heights)
 		before := slices.Clone(heights)
@@ -357,6 +410,13 @@ func TestPromise1ProfilesAreNotModified(t *testing.T) {
 		impl.WorstOf(p, 900000)
 		impl.IsClear(p, 900000, 600)
 		impl.RaiseEnds(p, 1)
+		impl.NuAt(p, 900000, 1)
+		impl.EdgesOf(p, 900000)
+		impl.SingleEdge(p, 900000)
+		impl.PartProfile(p, 0, 2)
+		impl.PartProfile(p, 1, 2)
+		impl.DeygoutLoss(p, 900000)
+		impl.BullingtonLoss(p, 900000)
 		if !slices.Equal(heights, before) {
 			t.Errorf("the profile %d was modified", i)
 		}
@@ -474,6 +534,16 @@ func TestPromise1ProfilesAreNewMemory(t *testing.T) {
 	spoil(turned.Heights)
 	spoil(raised.Heights)
 	expect(t, "the profile and another one", []any{impl.SameProfile(p, hill()), again.Heights}, "[true [120 200 600 150 100]]")
+	part, _ := impl.PartProfile(p, 1, 3)
+	otherPart, _ := impl.PartProfile(p, 1, 3)
+	spoil(part.Heights)
+	whole, _ := impl.PartProfile(p, 0, 4)
+	spoil(whole.Heights)
+	expect(t, "the profile and another part", []any{impl.SameProfile(p, hill()), otherPart.Heights}, "[true [150 600 200]]")
+	edges, _ := impl.EdgesOf(twoHills(), 450000)
+	otherEdges, _ := impl.EdgesOf(twoHills(), 450000)
+	spoil(edges)
+	expect(t, "the other edges", otherEdges, "[1 2 3]")
 	places, _ := impl.ProfilePlaces(point(3, 0), point(0, 0), 3)
 	otherPlaces, _ := impl.ProfilePlaces(point(3, 0), point(0, 0), 3)
 	places[0] = point(9, 9)
@@ -548,6 +618,14 @@ func TestPromise1MasksAreNewMemory(t *testing.T) {
 	expect(t, "the other table", other, "[0 2576 11292 58276]")
 }
 
+func TestPromise1TablesOfLossesAreNewMemory(t *testing.T) {
+	distances := []int64{1000, 100}
+	losses, _ := impl.FreeTable(900000, distances)
+	other, _ := impl.FreeTable(900000, distances)
+	spoil(losses)
+	expect(t, "the other losses and the distances", []any{other, distances}, "[[91532 71532] [1000 100]]")
+}
+
 func TestPromise1NilIsAnEmptyList(t *testing.T) {
 	expect(t, "ListText", impl.ListText(nil), impl.ListText([]int64{}))
 	for name, add := range map[string]func([]int64) (int64, int64){"SumDb": impl.SumDb, "MeanDb": impl.MeanDb} {
@@ -564,6 +642,9 @@ func TestPromise1NilIsAnEmptyList(t *testing.T) {
 	a, codeA = impl.SinrOf(twoModes(), -90000, nil)
 	b, codeB = impl.SinrOf(twoModes(), -90000, []int64{})
 	expect(t, "SinrOf", fmt.Sprint(a, codeA), fmt.Sprint(b, codeB))
+	losses, codeA := impl.FreeTable(900000, nil)
+	others, codeB := impl.FreeTable(900000, []int64{})
+	expect(t, "FreeTable", fmt.Sprint(losses, codeA), fmt.Sprint(others, codeB))
 }
 
 func TestPromise1FailedCallsReturnZeroValues(t *testing.T) {
