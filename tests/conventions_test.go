@@ -274,6 +274,38 @@ func calledDiffraction() []any {
 	return results
 }
 
+// calledLosses calls every function of chapter 11 with odd arguments and returns all results.
+func calledLosses() []any {
+	var results []any
+	add := func(values ...any) { results = append(results, values) }
+	for _, s := range append([]string{"trees", "city"}, oddTexts...) {
+		class, ok := impl.ClassNamed(s)
+		add(s, class, ok)
+	}
+	for _, list := range append(oddLists(), []int64{7, 0}, []int64{3, 8}) {
+		losses, code := impl.LossesOf(900000, 1000, 30, list, []int64{100, 60})
+		other, otherCode := impl.LossesOf(900000, 1000, 30, []int64{3, 3}, list)
+		add(losses, code, other, otherCode)
+	}
+	for _, a := range append(extremes, 20000000) {
+		gas, gasCode := impl.GasSpecific(a)
+		add(a, impl.ClutterName(a), impl.ClutterHeight(a), gas, gasCode)
+		for _, b := range extremes {
+			rain, rainCode := impl.RainSpecific(a, b)
+			loss, lossCode := impl.GasLoss(a, b)
+			green, greenCode := impl.VegetationLoss(a, b)
+			add(b, rain, rainCode, loss, lossCode, green, greenCode)
+			for _, c := range oddNumbers {
+				clutter, clutterCode := impl.ClutterLoss(c, a, b)
+				along, alongCode := impl.RainLoss(a, c, b)
+				losses, code := impl.LossesOf(a, b, c, []int64{c, 7}, []int64{b, 0})
+				add(c, clutter, clutterCode, along, alongCode, losses, code)
+			}
+		}
+	}
+	return results
+}
+
 // called calls every function of the chapters that have been built with odd arguments and returns all results.
 func called() []any {
 	var results []any
@@ -306,7 +338,8 @@ func called() []any {
 	results = append(results, calledRadios()...)
 	results = append(results, calledMasks()...)
 	results = append(results, calledFreeSpace()...)
-	return append(results, calledDiffraction()...)
+	results = append(results, calledDiffraction()...)
+	return append(results, calledLosses()...)
 }
 
 func TestPromise1EveryFunctionReturnsTheSameAgain(t *testing.T) {
@@ -339,6 +372,9 @@ func TestPromise1ArgumentsAreNotModified(t *testing.T) {
 		impl.SumDb(argument)
 		impl.MeanDb(argument)
 		impl.FreeTable(900000, argument)
+		impl.LossesOf(900000, 1000, 30, argument, argument)
+		impl.LossesOf(900000, 1000, 30, argument, []int64{0, 0})
+		impl.LossesOf(900000, 1000, 30, []int64{0, 0}, argument)
 		if !reflect.DeepEqual(whole, before) {
 			t.Errorf("a list of %d numbers was modified", len(list))
 		}
@@ -645,6 +681,9 @@ func TestPromise1NilIsAnEmptyList(t *testing.T) {
 	losses, codeA := impl.FreeTable(900000, nil)
 	others, codeB := impl.FreeTable(900000, []int64{})
 	expect(t, "FreeTable", fmt.Sprint(losses, codeA), fmt.Sprint(others, codeB))
+	path, codeA := impl.LossesOf(900000, 1000, 0, nil, nil)
+	same, codeB := impl.LossesOf(900000, 1000, 0, []int64{}, []int64{})
+	expect(t, "LossesOf", fmt.Sprint(path, codeA), fmt.Sprint(same, codeB))
 }
 
 func TestPromise1FailedCallsReturnZeroValues(t *testing.T) {

@@ -274,11 +274,11 @@ func TestPromise3OtherLevelTextsAreNotRead(t *testing.T) {
 	}
 }
 
-// namesUsed returns, for each function of chapters 1 and 2, the names in its declaration.
-func namesUsed(t *testing.T) map[string][]string {
+// namesUsed returns, for each function of some layers, the names in its declaration.
+func namesUsed(t *testing.T, layers ...string) map[string][]string {
 	used := map[string][]string{}
-	for _, file := range []string{"../impl/l01_basics.go", "../impl/l02_decibels.go"} {
-		parsed, err := parser.ParseFile(token.NewFileSet(), file, nil, parser.SkipObjectResolution)
+	for _, layer := range layers {
+		parsed, err := parser.ParseFile(token.NewFileSet(), "../impl/"+layer+".go", nil, parser.SkipObjectResolution)
 		if err != nil {
 			t.Fatal(err)
 		}
@@ -315,7 +315,7 @@ func reaches(used map[string][]string, from, name string, seen map[string]bool) 
 
 // LANGUAGE.md, rule 3b: powers and sums are computed by a function, and the table built once stays beside it.
 func TestPromise3PowersAndSumsNeedNoStoredTable(t *testing.T) {
-	used := namesUsed(t)
+	used := namesUsed(t, "l01_basics", "l02_decibels")
 	for _, name := range []string{"tens", "tensOnce"} {
 		for _, from := range []string{"LogDb", "PowDb", "RatioDb", "SumDb", "MeanDb", "DiffDb"} {
 			if len(used[from]) == 0 || reaches(used, from, name, map[string]bool{}) {
