@@ -306,6 +306,77 @@ func calledLosses() []any {
 	return results
 }
 
+// oddEnds are few ends of all kinds.
+func oddEnds() []impl.End {
+	return append([]impl.End{end(0, 0, 1), end(0, 0, 3000), end(3, 0, 300), end(1, 2, 5), end(23, 7, 60), end(200000, 200000, 9)}, badEnds()[:9]...)
+}
+
+// calledPaths calls every function of chapter 12 with odd arguments and returns all results.
+func calledPaths() []any {
+	var results []any
+	add := func(values ...any) { results = append(results, values) }
+	ends := oddEnds()
+	for _, v := range extremes {
+		add(impl.PathText(impl.Path{Distance: v, Elevation: v, Clutter: v, Total: -v, Clear: v > 0}), impl.ValidEnd(end(v, 3, 5)), impl.ValidEnd(end(3, 3, v)))
+	}
+	for _, g := range append(terrains(), badTerrains()...) {
+		for i, a := range ends {
+			h, code := impl.EndHeight(g, a)
+			worst, total, worstCode := impl.WorstOfPaths(g, a, ends[:i], 900000)
+			other, otherTotal, otherCode := impl.WorstOfPaths(g, ends[3], ends[i:i+1], 900000)
+			add(impl.ValidEnd(a), h, code, worst, total, worstCode, other, otherTotal, otherCode)
+			for _, b := range ends {
+				profile, profileCode := impl.ProfileBetween(g, a, b)
+				elevation, elevationCode := impl.ElevationOf(g, a, b)
+				add(profile, profileCode, elevation, elevationCode)
+				for _, f := range []int64{900000, 0, 100000000} {
+					path, pathCode := impl.PathOf(g, a, b, f)
+					above, aboveCode := impl.HeightFor(g, a, b, f)
+					add(path, pathCode, above, aboveCode)
+				}
+			}
+		}
+		for _, v := range oddNumbers {
+			along, alongCode := impl.LossesAlong(g, ends[0], v, 45, 1, 2)
+			turned, turnedCode := impl.LossesAlong(g, ends[3], 900000, v, 1, 1)
+			far, farCode := impl.LossesAlong(g, ends[0], 900000, 90, v, 2)
+			many, manyCode := impl.LossesAlong(g, ends[0], 900000, 0, 1, v)
+			all, allCode := impl.LossesAlong(g, ends[2], v, v, v, v)
+			add(along, alongCode, turned, turnedCode, far, farCode, many, manyCode, all, allCode)
+		}
+	}
+	return results
+}
+
+// calledFading calls every function of chapter 13 with odd arguments and returns all results.
+func calledFading() []any {
+	var results []any
+	add := func(values ...any) { results = append(results, values) }
+	for _, list := range append(oddLists(), []int64{1000, 1000}, []int64{999999, 1}) {
+		series, seriesCode := impl.SeriesOutage(list)
+		parallel, parallelCode := impl.ParallelOutage(list)
+		add(series, seriesCode, parallel, parallelCode)
+	}
+	for _, a := range append(extremes, 30, 100, 231) {
+		part, partCode := impl.ExceedanceOf(a)
+		seconds, secondsCode := impl.DownTime(a)
+		nines, ninesCode := impl.NinesOf(a)
+		add(a, part, partCode, seconds, secondsCode, nines, ninesCode)
+		for _, b := range oddNumbers {
+			outage, code := impl.OutageOf(a, b, 100, 30000)
+			other, otherCode := impl.OutageOf(6000000, 40000, a, b)
+			margin, marginCode := impl.MarginFor(b, a, 100, a)
+			least, leastCode := impl.MarginFor(6000000, 40000, a, b)
+			rain, rainCode := impl.RainOutage(a, 40000, b)
+			along, alongCode := impl.RainOutage(6000000, a, b)
+			hop, hopCode := impl.HopOutage(a, b, 100, a)
+			lossy, lossyCode := impl.HopOutage(6000000, 40000, b, a)
+			add(b, outage, code, other, otherCode, margin, marginCode, least, leastCode, rain, rainCode, along, alongCode, hop, hopCode, lossy, lossyCode)
+		}
+	}
+	return results
+}
+
 // called calls every function of the chapters that have been built with odd arguments and returns all results.
 func called() []any {
 	var results []any
@@ -339,7 +410,9 @@ func called() []any {
 	results = append(results, calledMasks()...)
 	results = append(results, calledFreeSpace()...)
 	results = append(results, calledDiffraction()...)
-	return append(results, calledLosses()...)
+	results = append(results, calledLosses()...)
+	results = append(results, calledPaths()...)
+	return append(results, calledFading()...)
 }
 
 func TestPromise1EveryFunctionReturnsTheSameAgain(t *testing.T) {
@@ -375,6 +448,8 @@ func TestPromise1ArgumentsAreNotModified(t *testing.T) {
 		impl.LossesOf(900000, 1000, 30, argument, argument)
 		impl.LossesOf(900000, 1000, 30, argument, []int64{0, 0})
 		impl.LossesOf(900000, 1000, 30, []int64{0, 0}, argument)
+		impl.SeriesOutage(argument)
+		impl.ParallelOutage(argument)
 		if !reflect.DeepEqual(whole, before) {
 			t.Errorf("a list of %d numbers was modified", len(list))
 		}
@@ -390,6 +465,30 @@ func TestPromise1PointsAreNotModified(t *testing.T) {
 	if !reflect.DeepEqual(whole, before) {
 		t.Error("a list of points was modified")
 	}
+}
+
+func TestPromise1EndsAreNotModified(t *testing.T) {
+	g := rough(250, 24, 24, 60)
+	whole := append(endsIn(g, 20), badEnds()...)
+	before := slices.Clone(whole)
+	for i := range whole {
+		impl.WorstOfPaths(g, whole[0], whole[1:max(i, 1)], 900000)
+	}
+	if !slices.Equal(whole, before) {
+		t.Error("a list of ends was modified")
+	}
+}
+
+func TestPromise1PathsAreNewMemory(t *testing.T) {
+	g := ridged(600)
+	p, _ := impl.ProfileBetween(g, end(100, 100, 300), end(1100, 100, 5))
+	other, _ := impl.ProfileBetween(g, end(100, 100, 300), end(1100, 100, 5))
+	spoil(p.Heights)
+	expect(t, "the terrain and the other profile", []any{impl.SameTerrain(g, ridged(600)), other.Heights[7:10]}, "[true [290 600 285]]")
+	losses, _ := impl.LossesAlong(g, end(100, 100, 300), 900000, 90, 100, 3)
+	others, _ := impl.LossesAlong(g, end(100, 100, 300), 900000, 90, 100, 3)
+	spoil(losses)
+	expect(t, "the other losses", others, "[71533 77553 81076]")
 }
 
 func TestPromise1ResultsAreNewMemory(t *testing.T) {
@@ -426,6 +525,13 @@ func TestPromise1TerrainsAreNotModified(t *testing.T) {
 		impl.ProfileOf(g, point(1, 0), point(0, 1), 3)
 		impl.ProfileClutter(g, point(1, 0), point(0, 1), 3)
 		impl.TerrainText(g)
+		impl.EndHeight(g, end(3, 0, 5))
+		impl.ProfileBetween(g, end(1, 0, 5), end(0, 1, 300))
+		impl.ElevationOf(g, end(1, 0, 5), end(0, 1, 300))
+		impl.PathOf(g, end(1, 0, 5), end(0, 1, 300), 900000)
+		impl.LossesAlong(g, end(0, 0, 5), 900000, 90, 1, 1)
+		impl.WorstOfPaths(g, end(1, 0, 5), []impl.End{end(0, 1, 300)}, 900000)
+		impl.HeightFor(g, end(1, 0, 5), end(0, 1, 300), 900000)
 		if !slices.Equal(heights, before) || !slices.Equal(classes, beforeClasses) {
 			t.Errorf("the terrain %d was modified", i)
 		}
@@ -684,6 +790,14 @@ func TestPromise1NilIsAnEmptyList(t *testing.T) {
 	path, codeA := impl.LossesOf(900000, 1000, 0, nil, nil)
 	same, codeB := impl.LossesOf(900000, 1000, 0, []int64{}, []int64{})
 	expect(t, "LossesOf", fmt.Sprint(path, codeA), fmt.Sprint(same, codeB))
+	for name, of := range map[string]func([]int64) (int64, int64){"SeriesOutage": impl.SeriesOutage, "ParallelOutage": impl.ParallelOutage} {
+		a, codeA := of(nil)
+		b, codeB := of([]int64{})
+		expect(t, name, fmt.Sprint(a, codeA), fmt.Sprint(b, codeB))
+	}
+	_, _, codeA = impl.WorstOfPaths(flat(10, 2, 2, 0), end(0, 0, 5), nil, 900000)
+	_, _, codeB = impl.WorstOfPaths(flat(10, 2, 2, 0), end(0, 0, 5), []impl.End{}, 900000)
+	expect(t, "WorstOfPaths", codeA, codeB)
 }
 
 func TestPromise1FailedCallsReturnZeroValues(t *testing.T) {
