@@ -377,6 +377,96 @@ func calledFading() []any {
 	return results
 }
 
+// someBadNetworks are few of all kinds.
+func someBadNetworks() []impl.Network {
+	var list []impl.Network
+	for i, n := range badNetworks() {
+		if i%7 == 0 {
+			list = append(list, n)
+		}
+	}
+	return list
+}
+
+// calledNetworks calls every function of chapter 14 with odd arguments and returns all results.
+func calledNetworks() []any {
+	var results []any
+	add := func(values ...any) { results = append(results, values) }
+	for _, s := range append(append(otherSectorTexts(), otherSiteTexts()...), oddTexts...) {
+		sector, isSector := impl.ReadSector(s)
+		site, isSite := impl.ReadSite(s)
+		add(s, sector, isSector, site, isSite)
+	}
+	sites := append(badSites(), impl.Site{Name: "sa", Holder: "x"}, impl.Site{Name: "hilk", Holder: "x"})
+	sectors := append(badSectors(), hills().Sectors[0], impl.Sector{Name: "cb1", Site: "sa", Antenna: "aa", Radio: "ra", Band: "b", Above: 1})
+	for _, n := range append(networks(), someBadNetworks()...) {
+		channels, channelsCode := impl.ChannelsOf(n)
+		add(impl.ValidNetwork(n), impl.SameNetwork(n, hills()), channels, channelsCode)
+		for _, x := range sites {
+			more, code := impl.AddSite(n, x)
+			add(impl.SiteText(x), more, code)
+		}
+		for _, x := range sectors {
+			more, code := impl.AddSector(n, x)
+			changed, changedCode := impl.ChangeSector(n, x)
+			add(impl.SectorText(x), more, code, changed, changedCode)
+		}
+		for _, list := range append(oddLists(), []int64{-1, 999}) {
+			set, code := impl.SetChannels(n, list)
+			add(set, code)
+		}
+		for _, name := range append([]string{"a", "hill", "mast", "sa", "sl", "ca", "cx"}, oddOfNames...) {
+			site, siteCode := impl.SiteNamed(n, name)
+			sector, sectorCode := impl.SectorNamed(n, name)
+			names, namesCode := impl.SectorsAt(n, name)
+			less, lessCode := impl.DropSite(n, name)
+			fewer, fewerCode := impl.DropSector(n, name)
+			end, endCode := impl.EndOf(n, name)
+			add(name, site, siteCode, sector, sectorCode, names, namesCode, less, lessCode, fewer, fewerCode, end, endCode)
+			for _, v := range oddNumbers {
+				eirp, eirpCode := impl.EirpToward(n, name, v, -v)
+				level, levelCode := impl.LevelAt(flat(100, 16, 16, 100), n, name, v, impl.End{Place: point(500, v), Above: 5})
+				other, otherCode := impl.LevelAt(four(), n, name, 900000, impl.End{Place: point(5, 5), Above: v})
+				add(v, eirp, eirpCode, level, levelCode, other, otherCode)
+			}
+		}
+	}
+	return results
+}
+
+// calledBands calls every function of chapter 15 with odd arguments and returns all results.
+func calledBands() []any {
+	var results []any
+	add := func(values ...any) { results = append(results, values) }
+	for _, s := range append(otherBandTexts(), oddTexts...) {
+		b, ok := impl.ReadBand(s)
+		add(s, b, ok)
+	}
+	all := append(bands()[:8], badBands()...)
+	for i, a := range all {
+		count, countCode := impl.ChannelCount(a)
+		named, namedCode := impl.BandNamed(all[i:], "low")
+		add(impl.ValidBand(a), impl.SameBand(a, all[0]), impl.BandText(a), count, countCode, impl.ValidBands(all[i:]), named, namedCode)
+		for _, v := range append(oddNumbers, 1000, 2000) {
+			f, code := impl.ChannelFrequency(a, v)
+			partner, partnerCode := impl.PartnerFrequency(a, v)
+			at, atCode := impl.ChannelAt(a, v)
+			add(v, f, code, partner, partnerCode, at, atCode)
+			for _, w := range oddNumbers {
+				list, code := impl.ChannelsWithin(a, v, w)
+				clash, clashCode := impl.ChannelsClash(a, v, all[0], w)
+				offset, offsetCode := impl.OffsetOf(all[0], v, a, w)
+				add(w, list, code, clash, clashCode, offset, offsetCode)
+			}
+		}
+		for _, b := range all {
+			width, code := impl.CommonPart(a, b)
+			add(width, code)
+		}
+	}
+	return results
+}
+
 // called calls every function of the chapters that have been built with odd arguments and returns all results.
 func called() []any {
 	var results []any
@@ -412,7 +502,9 @@ func called() []any {
 	results = append(results, calledDiffraction()...)
 	results = append(results, calledLosses()...)
 	results = append(results, calledPaths()...)
-	return append(results, calledFading()...)
+	results = append(results, calledFading()...)
+	results = append(results, calledNetworks()...)
+	return append(results, calledBands()...)
 }
 
 func TestPromise1EveryFunctionReturnsTheSameAgain(t *testing.T) {
@@ -636,6 +728,180 @@ func TestPromise1MasksAreNotModified(t *testing.T) {
 	}
 }
 
+// withRoom returns a copy of a list whose unused capacity is filled with its first element, or a zero value.
+func withRoom[T any](list []T) []T {
+	more := make([]T, 3)
+	if len(list) > 0 {
+		more = slices.Repeat(list[:1], 3)
+	}
+	return append(slices.Clone(list), more...)[:len(list)]
+}
+
+// allOf returns a copy of a list with its unused capacity.
+func allOf[T any](list []T) []T { return slices.Clone(list[:cap(list)]) }
+
+// roomyNetwork returns a copy of a network in whose lists there is room.
+func roomyNetwork(n impl.Network) impl.Network {
+	n = impl.Network{Sites: withRoom(n.Sites), Sectors: withRoom(n.Sectors), Antennas: withRoom(n.Antennas), Radios: withRoom(n.Radios)}
+	for i, a := range n.Antennas {
+		n.Antennas[i].Horizontal, n.Antennas[i].Vertical = withRoom(a.Horizontal), withRoom(a.Vertical)
+	}
+	for i, r := range n.Radios {
+		n.Radios[i].Modes = withRoom(r.Modes)
+	}
+	return n
+}
+
+// wholeNetwork returns a copy of a network with all that is in its memory.
+func wholeNetwork(n impl.Network) impl.Network {
+	n = impl.Network{Sites: allOf(n.Sites), Sectors: allOf(n.Sectors), Antennas: allOf(n.Antennas), Radios: allOf(n.Radios)}
+	for i, a := range n.Antennas {
+		n.Antennas[i].Horizontal, n.Antennas[i].Vertical = allOf(a.Horizontal), allOf(a.Vertical)
+	}
+	for i, r := range n.Radios {
+		n.Radios[i].Modes = allOf(r.Modes)
+	}
+	return n
+}
+
+// networkBuilders are the functions that return a network, which all succeed for the network of hills.
+func networkBuilders() []func(n impl.Network) (impl.Network, int64) {
+	return []func(n impl.Network) (impl.Network, int64){
+		func(n impl.Network) (impl.Network, int64) { return impl.AddSite(n, impl.Site{Name: "i", Holder: "x"}) },
+		func(n impl.Network) (impl.Network, int64) { return impl.AddSite(n, impl.Site{Name: "z", Holder: "x"}) },
+		func(n impl.Network) (impl.Network, int64) { return impl.DropSite(n, "mast") },
+		func(n impl.Network) (impl.Network, int64) {
+			return impl.AddSector(n, impl.Sector{Name: "a0", Site: "mast", Antenna: "omni", Radio: "big", Band: "x", Above: 1})
+		},
+		func(n impl.Network) (impl.Network, int64) { return impl.DropSector(n, "a") },
+		func(n impl.Network) (impl.Network, int64) { return impl.DropSector(n, "b") },
+		func(n impl.Network) (impl.Network, int64) {
+			return impl.ChangeSector(n, impl.Sector{Name: "a", Site: "mast", Antenna: "omni", Radio: "big", Band: "x", Above: 1})
+		},
+		func(n impl.Network) (impl.Network, int64) { return impl.SetChannels(n, []int64{-1, 999}) },
+	}
+}
+
+func TestPromise1NetworksAreNotModified(t *testing.T) {
+	for i, n := range append(networks(), badNetworks()...) {
+		n = roomyNetwork(n)
+		before := wholeNetwork(n)
+		for _, build := range networkBuilders() {
+			build(n)
+		}
+		channels := withRoom(zeros(len(n.Sectors)))
+		impl.SetChannels(n, channels)
+		impl.ValidNetwork(n)
+		impl.SameNetwork(n, n)
+		impl.ChannelsOf(n)
+		for _, name := range []string{"a", "hill", "sa", "sl", "ca", "cb", "zz"} {
+			impl.SiteNamed(n, name)
+			impl.SectorNamed(n, name)
+			impl.SectorsAt(n, name)
+			impl.DropSite(n, name)
+			impl.DropSector(n, name)
+			impl.EndOf(n, name)
+			impl.EirpToward(n, name, 90, -2)
+			impl.LevelAt(flat(100, 16, 16, 100), n, name, 900000, end(1100, 100, 300))
+			impl.AddSite(n, impl.Site{Name: name, Holder: "x"})
+			impl.AddSector(n, impl.Sector{Name: name, Site: "sa", Antenna: "aa", Radio: "ra", Band: "x", Above: 1})
+			impl.ChangeSector(n, impl.Sector{Name: name, Site: "sa", Antenna: "aa", Radio: "ra", Band: "x", Above: 1})
+		}
+		if !impl.SameNetwork(wholeNetwork(n), before) || slices.ContainsFunc(channels[:cap(channels)], func(v int64) bool { return v != 0 }) {
+			t.Errorf("the network %d was modified", i)
+		}
+	}
+}
+
+func TestPromise1LevelsDoNotModifyTheTerrain(t *testing.T) {
+	g := rough(100, 16, 16, 300)
+	for _, n := range networks() {
+		for _, x := range n.Sectors {
+			impl.LevelAt(g, n, x.Name, 900000, end(1100, 100, 300))
+		}
+	}
+	expect(t, "the terrain", impl.SameTerrain(g, rough(100, 16, 16, 300)), true)
+}
+
+// spoilLists overwrites the lists of a network in turn, with the memory behind them, and calls a function after each one.
+func spoilLists(n impl.Network, after func(n impl.Network)) {
+	for i := range n.Antennas {
+		spoil(n.Antennas[i].Horizontal)
+		n.Antennas[i].Horizontal = zeros(36)
+		after(n)
+		spoil(n.Antennas[i].Vertical)
+		n.Antennas[i].Vertical = zeros(19)
+		after(n)
+	}
+	for i := range n.Radios {
+		clear(n.Radios[i].Modes[:cap(n.Radios[i].Modes)])
+		n.Radios[i].Modes = []impl.Mode{{Rate: 1}}
+		after(n)
+	}
+	clear(n.Sites[:cap(n.Sites)])
+	clear(n.Sectors[:cap(n.Sectors)])
+	clear(n.Antennas[:cap(n.Antennas)])
+	clear(n.Radios[:cap(n.Radios)])
+}
+
+func TestPromise1NetworksAreNewMemory(t *testing.T) {
+	shared := hills()
+	shared.Antennas[0].Horizontal, shared.Antennas[0].Vertical = zeros(36), zeros(19)
+	shared.Antennas[1].Horizontal, shared.Antennas[1].Vertical = shared.Antennas[0].Horizontal, shared.Antennas[0].Horizontal[:19]
+	other := shared.Radios[0]
+	other.Name = "other"
+	shared.Radios = append(shared.Radios, other)
+	for k, n := range []impl.Network{hills(), shared} {
+		before := wholeNetwork(n)
+		for i, build := range networkBuilders() {
+			first, code := build(n)
+			second, _ := build(n)
+			if code != impl.OK || !impl.SameNetwork(first, second) || !impl.ValidNetwork(first) {
+				t.Errorf("the networks of the function %d are not the same, and the code is %d", i, code)
+			}
+			spoilLists(second, func(n impl.Network) {
+				if !impl.ValidNetwork(n) {
+					t.Errorf("the lists of the network of the function %d share memory", i)
+				}
+			})
+			if again, _ := build(n); !impl.SameNetwork(first, again) || !impl.SameNetwork(wholeNetwork(n), before) {
+				t.Errorf("the network of the function %d shares memory with the network %d or another result", i, k)
+			}
+		}
+	}
+}
+
+func TestPromise1ListsOfNetworksAreNewMemory(t *testing.T) {
+	n := hills()
+	channels, _ := impl.ChannelsOf(n)
+	names, _ := impl.SectorsAt(n, "hill")
+	spoil(channels)
+	clear(names[:cap(names)])
+	list := []int64{3, 4}
+	set, _ := impl.SetChannels(n, list)
+	spoil(list)
+	again, _ := impl.ChannelsOf(set)
+	others, _ := impl.SectorsAt(n, "hill")
+	expect(t, "the network and the other lists", []any{impl.SameNetwork(n, hills()), again, others}, "[true [3 4] [a b]]")
+}
+
+func TestPromise1ListsOfBandsAreNewMemory(t *testing.T) {
+	within, _ := impl.ChannelsWithin(band(1000, 2010, 25, 0), 1010, 1100)
+	other, _ := impl.ChannelsWithin(band(1000, 2010, 25, 0), 1010, 1100)
+	spoil(within)
+	expect(t, "the other channels", other, "[1 2 3]")
+	list := withRoom(listed(8))
+	before := allOf(list)
+	for i := range list {
+		impl.ValidBands(list[:i])
+		impl.BandNamed(list[:i], "bc")
+	}
+	impl.ValidBands(reversed(list))
+	if !slices.Equal(allOf(list), before) {
+		t.Error("a list of bands was modified")
+	}
+}
+
 // spoilTerrain overwrites a terrain and the memory behind its lists.
 func spoilTerrain(g impl.Terrain) {
 	spoil(g.Heights)
@@ -795,6 +1061,14 @@ func TestPromise1NilIsAnEmptyList(t *testing.T) {
 		b, codeB := of([]int64{})
 		expect(t, name, fmt.Sprint(a, codeA), fmt.Sprint(b, codeB))
 	}
+	expect(t, "ValidBands", []bool{impl.ValidBands(nil), impl.ValidBands([]impl.Band{})}, "[true true]")
+	_, codeA = impl.BandNamed(nil, "low")
+	_, codeB = impl.BandNamed([]impl.Band{}, "low")
+	expect(t, "BandNamed", codeA, codeB)
+	empty := impl.Network{Sites: []impl.Site{}, Sectors: []impl.Sector{}, Antennas: []impl.Antenna{}, Radios: []impl.Radio{}}
+	setA, codeA := impl.SetChannels(impl.Network{}, []int64{})
+	setB, codeB := impl.SetChannels(empty, nil)
+	expect(t, "SetChannels", fmt.Sprint(setA, codeA, impl.ValidNetwork(empty)), fmt.Sprint(setB, codeB, true))
 	_, _, codeA = impl.WorstOfPaths(flat(10, 2, 2, 0), end(0, 0, 5), nil, 900000)
 	_, _, codeB = impl.WorstOfPaths(flat(10, 2, 2, 0), end(0, 0, 5), []impl.End{}, 900000)
 	expect(t, "WorstOfPaths", codeA, codeB)

@@ -278,8 +278,8 @@ func TestPromise13DiffractionOfFallingPaths(t *testing.T) {
 	}
 }
 
-// reported is the order in which the errors of paths are reported.
-var reported = []int64{impl.ErrInvalid, impl.ErrRange, impl.ErrFull, impl.ErrState}
+// reported is the order in which the errors of paths, networks and bands are reported.
+var reported = []int64{impl.ErrInvalid, impl.ErrRange, impl.ErrNotFound, impl.ErrExists, impl.ErrFull, impl.ErrState}
 
 // firstReported returns the code that is reported of all that apply.
 func firstReported(codes ...int64) int64 {
