@@ -467,6 +467,56 @@ func calledBands() []any {
 	return results
 }
 
+// oddRows are few rows of all kinds.
+func oddRows() [][][]int64 {
+	rows := append(someRows()[:8], badRows()...)
+	return append(rows, rowsOf(5, 3, 100000, 300000), ratiosOf(4, 200000), badDomains, oddLists())
+}
+
+// calledInterference calls every function of chapter 16 with odd arguments and returns all results.
+func calledInterference() []any {
+	var results []any
+	add := func(values ...any) { results = append(results, values) }
+	lists := append(oddLists(), []int64{0, -1, 5}, []int64{5, 6, 999}, []int64{0, 10000, 30000})
+	for _, rows := range oddRows() {
+		servers, serversCode := impl.ServersOf(rows)
+		ratios, ratiosCode := impl.PairRatios(rows)
+		add(impl.ValidRows(rows), servers, serversCode, ratios, ratiosCode)
+		for i, list := range lists {
+			worst, ratio, worstCode := impl.WorstRatio(rows, list, []int64{0, 10000})
+			other, otherRatio, otherCode := impl.WorstRatio(rows, []int64{5, -1, 6}, list)
+			add(worst, ratio, worstCode, other, otherRatio, otherCode)
+			v := oddNumbers[i%len(oddNumbers)]
+			need, needCode := impl.NeedMatrix(rows, v, list)
+			p, code := impl.ProblemOf(rows, v, list, rows)
+			own, ownCode := impl.ProblemOf(three(), v, list, rows)
+			add(need, needCode, p, code, own, ownCode)
+		}
+	}
+	for _, a := range lists {
+		for _, b := range lists {
+			for _, v := range []int64{math.MinInt64, -1, 0, 2, math.MaxInt64} {
+				ratio, code := impl.SignalRatio(a, b, []int64{0, 10000}, v)
+				other, otherCode := impl.SignalRatio(three()[0], a, b, v)
+				add(ratio, code, other, otherCode)
+			}
+		}
+	}
+	ends := oddEnds()
+	for _, g := range []impl.Terrain{flat(100, 16, 16, 100), four(), rough(100, 16, 16, 300), {}, {Step: math.MaxInt64, Width: 2, Height: 2, Heights: zeros(4), Clutter: zeros(4)}} {
+		for _, n := range append([]impl.Network{{}, hills(), network(1, 2, 1), network(5, 9, 3)}, someBadNetworks()...) {
+			for i, at := range ends {
+				for _, f := range []int64{math.MinInt64, 0, 900000, math.MaxInt64} {
+					row, code := impl.LevelsAt(g, n, f, at)
+					rows, rowsCode := impl.LevelRows(g, n, f, ends[:i])
+					add(row, code, rows, rowsCode)
+				}
+			}
+		}
+	}
+	return results
+}
+
 // called calls every function of the chapters that have been built with odd arguments and returns all results.
 func called() []any {
 	var results []any
@@ -504,7 +554,8 @@ func called() []any {
 	results = append(results, calledPaths()...)
 	results = append(results, calledFading()...)
 	results = append(results, calledNetworks()...)
-	return append(results, calledBands()...)
+	results = append(results, calledBands()...)
+	return append(results, calledInterference()...)
 }
 
 func TestPromise1EveryFunctionReturnsTheSameAgain(t *testing.T) {
@@ -902,6 +953,122 @@ func TestPromise1ListsOfBandsAreNewMemory(t *testing.T) {
 	}
 }
 
+// roomyRows returns a copy of rows in which there is room.
+func roomyRows(rows [][]int64) [][]int64 {
+	rows = withRoom(rows)
+	for i := range rows {
+		rows[i] = withRoom(rows[i])
+	}
+	return rows
+}
+
+// wholeRows returns a copy of rows with all that is in their memory.
+func wholeRows(rows [][]int64) [][]int64 {
+	rows = allOf(rows)
+	for i := range rows {
+		rows[i] = allOf(rows[i])
+	}
+	return rows
+}
+
+func TestPromise1RowsAreNotModified(t *testing.T) {
+	lists := append(oddLists()[:9], []int64{0, -1, 5}, []int64{0, 10000, 30000})
+	for i, rows := range append(oddRows(), someRows()...) {
+		rows = roomyRows(rows)
+		before := wholeRows(rows)
+		impl.ValidRows(rows)
+		impl.ServersOf(rows)
+		impl.PairRatios(rows)
+		for _, list := range lists {
+			list, whole := roomy(list)
+			listBefore := slices.Clone(whole)
+			impl.WorstRatio(rows, list, []int64{0, 10000})
+			impl.WorstRatio(rows, zeros(3), list)
+			impl.WorstRatio(three(), list, list)
+			impl.SignalRatio(list, zeros(3), []int64{0, 10000}, 1)
+			impl.SignalRatio(three()[0], list, list, 0)
+			impl.NeedMatrix(rows, 15000, list)
+			impl.ProblemOf(rows, 15000, list, rows)
+			impl.ProblemOf(three(), 15000, list, rows)
+			if !slices.Equal(whole, listBefore) {
+				t.Errorf("a list of %d numbers was modified", len(list))
+			}
+		}
+		if !reflect.DeepEqual(wholeRows(rows), before) {
+			t.Errorf("the rows %d were modified", i)
+		}
+	}
+}
+
+func TestPromise1ArgumentsOfLevelRowsAreNotModified(t *testing.T) {
+	g := rough(100, 16, 16, 300)
+	for _, n := range append(networks(), someBadNetworks()...) {
+		n = roomyNetwork(n)
+		before := wholeNetwork(n)
+		list := withRoom(endsIn(g, 5))
+		ends := allOf(list)
+		impl.LevelRows(g, n, 900000, list)
+		impl.LevelRows(g, n, 900000, list[:2])
+		impl.LevelsAt(g, n, 900000, list[0])
+		if !impl.SameNetwork(wholeNetwork(n), before) || !slices.Equal(allOf(list), ends) || !impl.SameTerrain(g, rough(100, 16, 16, 300)) {
+			t.Error("a terrain, a network or a list of ends was modified")
+		}
+	}
+}
+
+// expectNewRows checks that the rows that a function returns share memory with nothing.
+func expectNewRows(t *testing.T, what string, build func() [][]int64) {
+	t.Helper()
+	first, second := build(), build()
+	want := fmt.Sprint(first)
+	if len(first) < 2 {
+		t.Errorf("%s returns %d rows", what, len(first))
+	}
+	for i, row := range second {
+		later := fmt.Sprint(second[i+1:])
+		spoil(row)
+		expect(t, what+", rows behind one that was changed", second[i+1:], later)
+	}
+	clear(second[:cap(second)])
+	expect(t, what+", another result", first, want)
+	expect(t, what+", a later result", build(), want)
+}
+
+func TestPromise1RowsAreNewMemory(t *testing.T) {
+	g, n := rough(100, 16, 16, 300), network(7, 9, 3)
+	list := endsIn(g, 4)
+	shared := slices.Repeat([][]int64{{0, 5, 9}}, 3)
+	same := slices.Repeat([][]int64{{-60000, -70000, -80000}}, 3)
+	ratios := slices.Repeat([][]int64{{20000, 10000, 5000}}, 3)
+	table := []int64{0, 10000, 30000}
+	problem := func() impl.Problem {
+		p, _ := impl.ProblemOf(same, 15000, table, shared)
+		return p
+	}
+	for what, build := range map[string]func() [][]int64{
+		"LevelRows":  func() [][]int64 { rows, _ := impl.LevelRows(g, n, 900000, list); return rows },
+		"PairRatios": func() [][]int64 { rows, _ := impl.PairRatios(same); return rows },
+		"NeedMatrix": func() [][]int64 { rows, _ := impl.NeedMatrix(ratios, 15000, table); return rows },
+		"Domains":    func() [][]int64 { return problem().Domains },
+		"Apart":      func() [][]int64 { return problem().Apart },
+		"ServersOf":  func() [][]int64 { a, _ := impl.ServersOf(same); b, _ := impl.ServersOf(same); return [][]int64{a, b} },
+		"LevelsAt": func() [][]int64 {
+			a, _ := impl.LevelsAt(g, n, 900000, list[0])
+			b, _ := impl.LevelsAt(g, n, 900000, list[0])
+			return [][]int64{a, b}
+		},
+	} {
+		expectNewRows(t, what, build)
+	}
+	p := problem()
+	domains := fmt.Sprint(p.Domains)
+	for _, row := range p.Apart {
+		spoil(row)
+	}
+	expect(t, "the domains of a problem whose constraints were changed", p.Domains, domains)
+	expect(t, "the arguments", []any{shared, same, ratios, table}, "[[[0 5 9] [0 5 9] [0 5 9]] [[-60000 -70000 -80000] [-60000 -70000 -80000] [-60000 -70000 -80000]] [[20000 10000 5000] [20000 10000 5000] [20000 10000 5000]] [0 10000 30000]]")
+}
+
 // spoilTerrain overwrites a terrain and the memory behind its lists.
 func spoilTerrain(g impl.Terrain) {
 	spoil(g.Heights)
@@ -1069,6 +1236,16 @@ func TestPromise1NilIsAnEmptyList(t *testing.T) {
 	setA, codeA := impl.SetChannels(impl.Network{}, []int64{})
 	setB, codeB := impl.SetChannels(empty, nil)
 	expect(t, "SetChannels", fmt.Sprint(setA, codeA, impl.ValidNetwork(empty)), fmt.Sprint(setB, codeB, true))
+	expect(t, "ValidRows", []bool{impl.ValidRows(nil), impl.ValidRows([][]int64{}), impl.ValidRows([][]int64{nil}), impl.ValidRows([][]int64{{}})}, "[false false false false]")
+	_, codeA = impl.LevelRows(flat(100, 16, 16, 100), hills(), 900000, nil)
+	_, codeB = impl.LevelRows(flat(100, 16, 16, 100), hills(), 900000, []impl.End{})
+	expect(t, "LevelRows", codeA, codeB)
+	_, codeA = impl.LevelsAt(flat(100, 16, 16, 100), impl.Network{}, 900000, end(0, 0, 5))
+	_, codeB = impl.LevelsAt(flat(100, 16, 16, 100), empty, 900000, end(0, 0, 5))
+	expect(t, "LevelsAt", codeA, codeB)
+	_, codeA = impl.ProblemOf([][]int64{{0}}, 0, []int64{0}, nil)
+	_, codeB = impl.ProblemOf([][]int64{{0}}, 0, []int64{0}, [][]int64{})
+	expect(t, "ProblemOf", codeA, codeB)
 	_, _, codeA = impl.WorstOfPaths(flat(10, 2, 2, 0), end(0, 0, 5), nil, 900000)
 	_, _, codeB = impl.WorstOfPaths(flat(10, 2, 2, 0), end(0, 0, 5), []impl.End{}, 900000)
 	expect(t, "WorstOfPaths", codeA, codeB)
