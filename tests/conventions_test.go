@@ -517,6 +517,47 @@ func calledInterference() []any {
 	return results
 }
 
+// oddProblems are few problems of all kinds.
+func oddProblems() []impl.Problem {
+	return append(someProblems(), append(badProblems(), impl.Problem{Domains: oddLists(), Apart: oddLists()}, impl.Problem{Domains: triangle().Domains, Apart: oddLists()[:3]})...)
+}
+
+// calledConstraints calls every function of chapter 17 with odd arguments and returns all results.
+func calledConstraints() []any {
+	var results []any
+	add := func(values ...any) { results = append(results, values) }
+	lists := append(oddLists(), []int64{0, 2, 4}, []int64{0, 1, 2}, []int64{2})
+	for _, list := range lists {
+		add(impl.SpanOf(list))
+	}
+	for _, domains := range append(oddRows(), triangle().Domains) {
+		made, code := impl.MakeProblem(domains, [][]int64{{0, 1, 2}})
+		other, otherCode := impl.MakeProblem(triangle().Domains, domains)
+		add(made, code, other, otherCode)
+	}
+	for _, p := range oddProblems() {
+		add(impl.ValidProblem(p), impl.SameProblem(p, p), impl.SameProblem(p, triangle()))
+		for _, list := range lists {
+			near, nearCode := impl.Violations(p, list)
+			few, fewCode := impl.Restrict(p, 0, list)
+			part, partCode := impl.PartProblem(p, list)
+			add(impl.ValidAssignment(p, list), near, nearCode, few, fewCode, part, partCode)
+		}
+		for _, v := range append(oddNumbers, 20000) {
+			degree, degreeCode := impl.DegreeOf(p, v)
+			few, fewCode := impl.Restrict(p, v, []int64{0, 9})
+			tight, tightCode := impl.Tighten(p, v, 0, 7)
+			other, otherCode := impl.Tighten(p, 1, v, v)
+			own, ownCode := impl.Tighten(p, 0, 1, v)
+			clique, cliqueCode := impl.MaxClique(p, v, 100)
+			large, largeCode := impl.MaxClique(p, 1, v)
+			bound, boundCode := impl.CliqueBound(p, v)
+			add(v, degree, degreeCode, few, fewCode, tight, tightCode, other, otherCode, own, ownCode, clique, cliqueCode, large, largeCode, bound, boundCode)
+		}
+	}
+	return results
+}
+
 // called calls every function of the chapters that have been built with odd arguments and returns all results.
 func called() []any {
 	var results []any
@@ -555,7 +596,8 @@ func called() []any {
 	results = append(results, calledFading()...)
 	results = append(results, calledNetworks()...)
 	results = append(results, calledBands()...)
-	return append(results, calledInterference()...)
+	results = append(results, calledInterference()...)
+	return append(results, calledConstraints()...)
 }
 
 func TestPromise1EveryFunctionReturnsTheSameAgain(t *testing.T) {
@@ -1069,6 +1111,79 @@ func TestPromise1RowsAreNewMemory(t *testing.T) {
 	expect(t, "the arguments", []any{shared, same, ratios, table}, "[[[0 5 9] [0 5 9] [0 5 9]] [[-60000 -70000 -80000] [-60000 -70000 -80000] [-60000 -70000 -80000]] [[20000 10000 5000] [20000 10000 5000] [20000 10000 5000]] [0 10000 30000]]")
 }
 
+// problemBuilders are the functions that return a problem, which all succeed for the triangle.
+func problemBuilders() map[string]func(p impl.Problem) (impl.Problem, int64) {
+	return map[string]func(p impl.Problem) (impl.Problem, int64){
+		"MakeProblem": func(p impl.Problem) (impl.Problem, int64) {
+			return impl.MakeProblem(p.Domains, [][]int64{{0, 1, 2}, {1, 2, 9}})
+		},
+		"Tighten":     func(p impl.Problem) (impl.Problem, int64) { return impl.Tighten(p, 2, 0, 9) },
+		"Restrict":    func(p impl.Problem) (impl.Problem, int64) { return impl.Restrict(p, 1, []int64{1, 4}) },
+		"PartProblem": func(p impl.Problem) (impl.Problem, int64) { return impl.PartProblem(p, []int64{0, 2}) },
+	}
+}
+
+func TestPromise1ProblemsAreNotModified(t *testing.T) {
+	lists := append(oddLists()[:9], []int64{0, 2, 4}, []int64{0, 1, 2}, []int64{4, 2, 0})
+	for i, p := range oddProblems() {
+		p.Domains, p.Apart = roomyRows(p.Domains), roomyRows(p.Apart)
+		domains, apart := wholeRows(p.Domains), wholeRows(p.Apart)
+		for _, build := range problemBuilders() {
+			build(p)
+		}
+		impl.ValidProblem(p)
+		impl.SameProblem(p, p)
+		impl.DegreeOf(p, 0)
+		impl.MaxClique(p, 2, 100)
+		impl.CliqueBound(p, 100)
+		impl.MakeProblem(triangle().Domains, p.Apart)
+		for _, list := range lists {
+			list, whole := roomy(list)
+			before := slices.Clone(whole)
+			impl.ValidAssignment(p, list)
+			impl.Violations(p, list)
+			impl.Restrict(p, 0, list)
+			impl.PartProblem(p, list)
+			impl.MakeProblem(p.Domains, [][]int64{list})
+			impl.SpanOf(list)
+			if !slices.Equal(whole, before) {
+				t.Errorf("a list of %d numbers was modified", len(list))
+			}
+		}
+		if !reflect.DeepEqual(wholeRows(p.Domains), domains) || !reflect.DeepEqual(wholeRows(p.Apart), apart) {
+			t.Errorf("the problem %d was modified", i)
+		}
+	}
+}
+
+func TestPromise1ProblemsAreNewMemory(t *testing.T) {
+	shared := triangle()
+	shared.Apart = slices.Repeat([][]int64{{0, 0, 0}}, 3)
+	for i, p := range []impl.Problem{triangle(), shared} {
+		before := fmt.Sprint(p)
+		for what, build := range problemBuilders() {
+			expectNewRows(t, "Domains of "+what, func() [][]int64 { made, _ := build(p); return made.Domains })
+			expectNewRows(t, "Apart of "+what, func() [][]int64 { made, _ := build(p); return made.Apart })
+			made, code := build(p)
+			apart := fmt.Sprint(made.Apart)
+			for _, domain := range made.Domains {
+				spoil(domain)
+			}
+			expect(t, "the constraints of a problem of "+what+" whose domains were changed", []any{made.Apart, code}, []any{apart, impl.OK})
+		}
+		if fmt.Sprint(p) != before {
+			t.Errorf("the problem %d shares memory with a result", i)
+		}
+	}
+	p := triangle()
+	near := func() [][]int64 { pairs, _ := impl.Violations(p, []int64{1, 1, 1}); return pairs }
+	expectNewRows(t, "Violations", near)
+	clique, _ := impl.MaxClique(p, 2, 100)
+	other, _ := impl.MaxClique(p, 2, 100)
+	spoil(clique)
+	expect(t, "the other clique", other, "[0 1 2]")
+}
+
 // spoilTerrain overwrites a terrain and the memory behind its lists.
 func spoilTerrain(g impl.Terrain) {
 	spoil(g.Heights)
@@ -1246,9 +1361,34 @@ func TestPromise1NilIsAnEmptyList(t *testing.T) {
 	_, codeA = impl.ProblemOf([][]int64{{0}}, 0, []int64{0}, nil)
 	_, codeB = impl.ProblemOf([][]int64{{0}}, 0, []int64{0}, [][]int64{})
 	expect(t, "ProblemOf", codeA, codeB)
+	expectSameForNoProblem(t)
 	_, _, codeA = impl.WorstOfPaths(flat(10, 2, 2, 0), end(0, 0, 5), nil, 900000)
 	_, _, codeB = impl.WorstOfPaths(flat(10, 2, 2, 0), end(0, 0, 5), []impl.End{}, 900000)
 	expect(t, "WorstOfPaths", codeA, codeB)
+}
+
+// expectSameForNoProblem checks that the functions of chapter 17 take nil and empty lists for the same.
+func expectSameForNoProblem(t *testing.T) {
+	t.Helper()
+	both := func(call func(list [][]int64, numbers []int64) []any) {
+		t.Helper()
+		expect(t, "no list", call(nil, nil), call([][]int64{}, []int64{}))
+	}
+	one := impl.Problem{Domains: [][]int64{{5}}, Apart: [][]int64{{0}}}
+	both(func(list [][]int64, numbers []int64) []any {
+		p := impl.Problem{Domains: list, Apart: list}
+		empty := impl.Problem{Domains: [][]int64{numbers}, Apart: [][]int64{{0}}}
+		made, code := impl.MakeProblem(one.Domains, list)
+		_, noneCode := impl.MakeProblem(list, list)
+		_, emptyCode := impl.MakeProblem([][]int64{numbers}, list)
+		return []any{impl.ValidProblem(p), impl.ValidProblem(empty), impl.SameProblem(p, impl.Problem{}), impl.SameProblem(impl.Problem{}, p), made, code, noneCode, emptyCode}
+	})
+	both(func(list [][]int64, numbers []int64) []any {
+		_, violationsCode := impl.Violations(one, numbers)
+		_, restrictCode := impl.Restrict(one, 0, numbers)
+		_, partCode := impl.PartProblem(one, numbers)
+		return []any{impl.ValidAssignment(one, numbers), violationsCode, restrictCode, partCode, impl.SpanOf(numbers)}
+	})
 }
 
 func TestPromise1FailedCallsReturnZeroValues(t *testing.T) {
